@@ -1,0 +1,1 @@
+"""Builds: parts of a catalogue put in a room."""

@@ -1,0 +1,209 @@
+"""The calls: the order of the refusals, line, what is handed in, and inputs as large as may be."""
+
+import time
+import unittest
+
+from brickrooms.builds import check, judge, line
+from tests.making import CELLS, NAMED, NAMES, box, build, given
+
+NO_TEXT = "part"
+NOT_RIGHT = box("b", 1, 1, 1) + box("a", 1, 1, 1)
+GOOD_BUILD = "build a\nput bare 0 0 0 0 0\n"
+CLASHING = "build a\nput bare 0 0 0 0 0\nput bare 0 0 0 0 0\n"
+
+
+def all_three(catalogue, text, i=0):
+    c = given(catalogue)
+    b = given(text)
+    return [judge(c, b), check(c, b), line(i, c, b)]
+
+
+class Refusals(unittest.TestCase):
+    def test_length_of_b(self):
+        # No build's text is that long: but 16,384 bytes are read, and told their fault.
+        for size, wanted in ((16383, [[-5, 7], [-5], [-5]]), (16384, [[-5, 7], [-5], [-5]]), (16385, [[-2]] * 3),
+                             (17000, [[-2]] * 3)):
+            text = "build a" + " " * (size - 7)
+            self.assertEqual(all_three(CELLS, text), wanted, size)
+
+    def test_length_of_c(self):
+        # Longer than the interface hands in: the calls' own row is kept all the same.
+        self.assertEqual(all_three("x" * 1048576, GOOD_BUILD), [[-6]] * 3)
+        self.assertEqual(all_three("x" * 1048577, GOOD_BUILD), [[-2]] * 3)
+
+    def test_a_long_beginning_of_a_build(self):
+        put = "put longname 255 63 63 95 3\n"
+        whole = "build abcdefghijklmnop\n" + put * 256
+        self.assertEqual(len(whole), 7191)
+        self.assertEqual(judge(given(NAMED), given(whole)), [256])
+        self.assertEqual(judge(given(NAMED), given((whole + put * 400)[:16384])), [-5, 7191])
+        self.assertEqual(judge(given(NAMED), given((whole + put * 400)[:16385])), [-2])
+
+    def test_length_ahead_of_all(self):
+        for catalogue in (NO_TEXT, NOT_RIGHT, CELLS, ""):
+            for start in (GOOD_BUILD, "no build"):
+                text = start + "x" * (16385 - len(start))
+                self.assertEqual(all_three(catalogue, text, 10 ** 30), [[-2]] * 3)
+
+    def test_no_catalogue_ahead_of_what_comes_behind(self):
+        for catalogue in (NO_TEXT, "", NOT_RIGHT + "x"):
+            for text in (GOOD_BUILD, CLASHING, "no build", ""):
+                for i in (0, 7, 10 ** 30):
+                    self.assertEqual(all_three(catalogue, text, i), [[-6]] * 3)
+
+    def test_catalogue_not_right_ahead_of_what_comes_behind(self):
+        for text in (GOOD_BUILD, CLASHING, "no build", "", "build a\nput a 0 0 0 0 0\n"):
+            for i in (0, 7, 10 ** 30):
+                self.assertEqual(all_three(NOT_RIGHT, text, i), [[-8]] * 3)
+
+    def test_no_build_ahead_of_what_comes_behind(self):
+        for i in (0, 7, 10 ** 30):
+            # The lines that are there clash, but the text breaks off behind them.
+            self.assertEqual(all_three(CELLS, CLASHING + "put", i), [[-5, len(CLASHING) + 3], [-5], [-5]])
+
+    def test_wrong_build_is_refused_by_check_alone(self):
+        self.assertEqual(all_three(CELLS, CLASHING, 1), [[2], [-9, 2, 1, 0], [0, 0, 0, 0, 0, 0]])
+        self.assertEqual(all_three(CELLS, CLASHING, 2), [[2], [-9, 2, 1, 0], [-4]])
+
+    def test_good_ones(self):
+        self.assertEqual(all_three(CELLS, GOOD_BUILD), [[1], [0], [0, 0, 0, 0, 0, 0]])
+        self.assertEqual(all_three(CELLS, "build a\n"), [[0], [0], [-4]])
+
+
+class Line(unittest.TestCase):
+    TEXT = build(("tube", 1, 2, 3, 1, 255), ("bare", 63, 62, 95, 3, 7), ("stud", 10, 20, 30, 2, 40), ("bare", 0, 0, 0))
+
+    def test_six_numbers_in_order(self):
+        told = [line(i, given(CELLS), given(self.TEXT)) for i in range(4)]
+        wanted = [[3, 255, 1, 2, 3, 1], [0, 7, 63, 62, 95, 3], [2, 40, 10, 20, 30, 2], [0, 0, 0, 0, 0, 0]]
+        self.assertEqual(told, wanted)
+
+    def test_of_a_build_that_is_not_right(self):
+        catalogue = given(CELLS + box("two", 2, 1, 1))
+        text = given(build(("two", 63, 0, 0, 0, 9), ("both", 3, 3, 3), ("both", 3, 3, 3), ("stud", 3, 3, 4, 2)))
+        self.assertEqual(check(catalogue, text), [-9, 1, 0, 0])
+        told = [line(i, catalogue, text) for i in range(5)]
+        self.assertEqual(told, [[4, 9, 63, 0, 0, 0], [1, 0, 3, 3, 3, 0], [1, 0, 3, 3, 3, 0], [2, 0, 3, 3, 4, 2], [-4]])
+
+    def test_no_such_line(self):
+        for i in (4, 5, 255, 256, 257, 2 ** 32, 2 ** 64, 10 ** 30 - 1, 10 ** 30):
+            self.assertEqual(line(i, given(CELLS), given(self.TEXT)), [-4])
+        self.assertEqual(line(0, given(CELLS), given("build a\n")), [-4])
+
+    def test_the_last_of_256(self):
+        text = given(build(*[("both", k % 64, k // 64, 0, k % 4, k) for k in range(256)]))
+        self.assertEqual(line(255, given(CELLS), text), [1, 255, 63, 3, 0, 3])
+        self.assertEqual(line(256, given(CELLS), text), [-4])
+
+
+class WhatIsHandedIn(unittest.TestCase):
+    PAIRS = ((CELLS, GOOD_BUILD), (CELLS, CLASHING), (CELLS, "no build"), (NOT_RIGHT, GOOD_BUILD), (NO_TEXT, ""),
+             (NAMED, build((NAMES[1], 1, 2, 3, 2), (NAMES[4], 60, 2, 3, 3))), (CELLS, "x" * 16385))
+
+    def test_is_as_it_was(self):
+        for catalogue, text in self.PAIRS:
+            c = given(catalogue)
+            b = given(text)
+            for call in (judge, check, lambda c, b: line(0, c, b)):
+                call(c, b)
+                self.assertEqual((c, b), (given(catalogue), given(text)))
+
+    def test_is_not_changed_for_a_while_either(self):
+        class Sealed(list):
+            def refuse(self, *arguments):
+                raise RuntimeError("changed")
+            append = clear = extend = insert = pop = remove = reverse = sort = refuse
+            __setitem__ = __delitem__ = __iadd__ = __imul__ = refuse
+
+        for catalogue, text in self.PAIRS:
+            c = Sealed(given(catalogue))
+            b = Sealed(given(text))
+            self.assertEqual([judge(c, b), check(c, b), line(0, c, b)], all_three(catalogue, text))
+
+    def test_nothing_is_kept(self):
+        alone = [all_three(catalogue, text) for catalogue, text in self.PAIRS]
+        for count in range(3):
+            self.assertEqual([all_three(catalogue, text) for catalogue, text in self.PAIRS], alone)
+            self.assertEqual([all_three(catalogue, text) for catalogue, text in self.PAIRS[::-1]], alone[::-1])
+
+    def test_an_answer_is_the_caller_s_own(self):
+        c = given(CELLS)
+        b = given(GOOD_BUILD)
+        for call in (judge, check, lambda c, b: line(0, c, b)):
+            first = call(c, b)
+            wanted = list(first)
+            first.append(99)
+            first[0] = 77
+            self.assertEqual(call(c, b), wanted)
+
+    def test_kinds(self):
+        for catalogue, text in self.PAIRS:
+            for answer in all_three(catalogue, text):
+                self.assertIs(type(answer), list)
+                self.assertEqual({type(number) for number in answer}, {int})
+
+
+class AsLargeAsMayBe(unittest.TestCase):
+    def answers(self, c, b, wanted):
+        self.assertLessEqual(len(c), 100000)
+        self.assertLessEqual(len(b), 17000)
+        started = time.monotonic()
+        self.assertEqual([judge(c, b), check(c, b), line(255, c, b)], wanted)
+        self.assertLess(time.monotonic() - started, 30)
+
+    def test_a_catalogue_of_nearly_100000_bytes(self):
+        parts = [box(f"a{k:02}", 16, 16, 18) for k in range(20)]
+        text = "".join(parts)
+        text += "".join(box(f"b{k:02}", 16, 1, 1) for k in range(44))
+        self.assertEqual(judge(given(text), given("build a\n")), [0])
+        self.answers(given(text), given("build a\nput a19 0 0 0 0 3\n"), [[1], [0], [-4]])
+
+    def test_100000_bytes_that_are_no_catalogue(self):
+        for sign in "p#\n\x00\xff":
+            self.answers(given(sign * 100000), given("build a\n"), [[-6]] * 3)
+        text = "".join(box(f"a{k:02}", 16, 16, 18) for k in range(21))
+        self.answers(given(text[:100000]), given("build a\n"), [[-6]] * 3)
+
+    def test_a_full_room(self):
+        # 80 parts of 16 by 16 by 18, turned each way, fill the room up to z 89.
+        c = given(box("a", 16, 16, 18, "t" + "#" * 16 + "s"))
+        puts = [("a", 16 * x, 16 * y, 18 * z, (x + y + z) % 4) for z in range(5) for y in range(4) for x in range(4)]
+        self.answers(c, given(build(*puts)), [[80], [0], [-4]])
+        self.answers(c, given(build(*puts, puts[79])), [[81], [-9, 2, 80, 79], [-4]])
+
+    def test_256_lines(self):
+        c = given(box("a", 4, 4, 6, "t" + "#" * 4 + "s"))
+        puts = [("a", 4 * (k % 16), 4 * (k // 16), 0, k % 4, k) for k in range(256)]
+        self.answers(c, given(build(*puts)), [[256], [0], [0, 255, 60, 60, 0, 3]])
+        self.answers(c, given(build(*puts[:255], ("a", 0, 0, 0))), [[256], [-9, 2, 255, 0], [0, 0, 0, 0, 0, 0]])
+        self.answers(c, given(build(*puts[:255], ("a", 1, 1, 4))), [[256], [-9, 2, 255, 0], [0, 0, 1, 1, 4, 0]])
+        self.answers(c, given(build(*puts[:255], ("a", 3, 3, 6))), [[256], [0], [0, 0, 3, 3, 6, 0]])
+
+    def test_256_lines_in_one_another(self):
+        # An angle with a post at its corner: moved along the slant, places overlap, but no cells do.
+        full, left, none = "#" * 16, "#" + "." * 15, "." * 16
+        layers = [[full] + [left] * 15] + [[left] + [none] * 15] * 15
+        c = given("part a 16 16 16 1\n" + "".join(row + "\n" for layer in layers for row in layer))
+        puts = [("a", k % 49, k % 49, 16 * (k // 49)) for k in range(256)]
+        self.answers(c, given(build(*puts)), [[256], [0], [0, 0, 10, 10, 80, 0]])
+        self.answers(c, given(build(*puts[:255], ("a", 0, 1, 0))), [[256], [-9, 2, 255, 0], [0, 0, 0, 1, 0, 0]])
+
+    def test_a_part_whose_cells_are_one_long_way(self):
+        # Recursion from cell to cell would go as deep as the part has cells.
+        full, left, right = "#" * 16, "#" + "." * 15, "." * 15 + "#"
+        none = ["." * 16] * 15
+        snake = [full, right, full, left] * 4
+        links = [none + [left], [left] + none]
+        layers = [snake if z % 2 == 0 else links[z // 2 % 2] for z in range(17)]
+        text = "part a 16 16 17 1\n" + "".join(row + "\n" for layer in layers for row in layer)
+        self.answers(given(text), given("build a\nput a 0 0 0 0 1\n"), [[1], [0], [-4]])
+
+    def test_the_longest_texts_for_b(self):
+        c = given("".join(box(f"a{k:03}", 1, 1, 1) for k in range(64)))
+        for sign in "b \n\x00\xff":
+            self.answers(c, given(sign * 16384), [[-5, 1 if sign == "b" else 0], [-5], [-5]])
+            self.answers(c, given(sign * 17000), [[-2]] * 3)
+
+
+if __name__ == "__main__":
+    unittest.main()
