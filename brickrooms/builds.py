@@ -1,7 +1,8 @@
 """The calls. Each answers a list of whole numbers; a number below 0 in front is a refusal."""
 
 from brickrooms.catalogues import catalogue_right, read_catalogue
-from brickrooms.rooms import first_wrong, read_build
+from brickrooms.holding import clutches, least_of_groups
+from brickrooms.rooms import beyond_room, fill_room, read_build
 from brickrooms.texts import Stuck
 
 MOST_CATALOGUE_BYTES = 1048576
@@ -9,13 +10,14 @@ MOST_BUILD_BYTES = 16384
 
 
 class Given:
-    """What c and b hold; or the refusal, below 0, and with -5 the fault."""
+    """What c and b hold, and where asked for the room; or the refusal, below 0, and with -5 the fault."""
 
     def __init__(self, refusal, fault, parts, lines):
         self.refusal = refusal
         self.fault = fault
         self.parts = parts
         self.lines = lines
+        self.room = None
 
 
 def read_given(c, b):
@@ -35,6 +37,16 @@ def read_given(c, b):
     return Given(0, 0, parts, lines)
 
 
+def read_right(c, b):
+    """The room is filled, too; refused with -9 if the build is not right."""
+    given = read_given(c, b)
+    if given.refusal == 0:
+        given.room = fill_room(given.parts, given.lines)
+        if len(given.room.wrong) > 0:
+            given.refusal = -9
+    return given
+
+
 def judge(c, b):
     """How many lines the build has, right or not; -5 with the fault."""
     given = read_given(c, b)
@@ -47,13 +59,10 @@ def judge(c, b):
 
 def check(c, b):
     """0 if the build is right; -9 with what is wrong (1 to 3), j and i."""
-    given = read_given(c, b)
-    if given.refusal < 0:
-        return [given.refusal]
-    wrong = first_wrong(given.parts, given.lines)
-    if len(wrong) > 0:
-        return [-9] + wrong
-    return [0]
+    given = read_right(c, b)
+    if given.refusal == -9:
+        return [-9] + given.room.wrong
+    return [given.refusal]
 
 
 def line(i, c, b):
@@ -64,3 +73,35 @@ def line(i, c, b):
     if i >= len(given.lines):
         return [-4]
     return list(given.lines[i])
+
+
+def sizes(c, b):
+    """How many lines, cells, studs in tubes, groups; the weight of all; how high it is."""
+    given = read_right(c, b)
+    if given.refusal < 0:
+        return [given.refusal]
+    counts = clutches(given.room)
+    groups = len(set(least_of_groups(len(given.lines), counts)))
+    weight = sum([given.parts[put[0]].weight for put in given.lines])
+    height = max([place[2] + 1 for place in given.room.signs], default=0)
+    return [len(given.lines), len(given.room.signs), sum(counts.values()), groups, weight, height]
+
+
+def at(x, y, z, c, b):
+    """The line that has a cell at (x, y, z); -4 if that is beyond the room, -3 if no line has."""
+    given = read_right(c, b)
+    if given.refusal < 0:
+        return [given.refusal]
+    if beyond_room(x, y, z):
+        return [-4]
+    return [given.room.owners.get((x, y, z), -3)]
+
+
+def clutch(i, j, c, b):
+    """How many studs of line i have a cell of line j with a tube just above; -4 if one of them is not there."""
+    given = read_right(c, b)
+    if given.refusal < 0:
+        return [given.refusal]
+    if i >= len(given.lines) or j >= len(given.lines):
+        return [-4]
+    return [clutches(given.room).get((i, j), 0)]

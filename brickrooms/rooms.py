@@ -1,4 +1,4 @@
-"""Builds in the room: their text, and when they are right.
+"""Builds in the room: their text, what is where, and when they are right.
 
 A line is a tuple: its part's number, colour, x, y, z, turns.
 """
@@ -14,6 +14,19 @@ LONGEST_BUILD_NAME = 16
 MOST_LINES = 256
 MOST_COLOUR = 255
 MOST_TURNS = 3
+
+
+class Room:
+    """signs: of each place with a cell the byte that tells its stud and tube; owners: the line that it is of.
+
+    wrong: what is wrong (1 to 3), j and i; an empty list if nothing is.
+    """
+
+    def __init__(self):
+        # No two lines in the room have a cell at one place: each place has one owner.
+        self.signs = {}
+        self.owners = {}
+        self.wrong = []
 
 
 def read_build(b, names):
@@ -53,25 +66,31 @@ def some_begins(names, beginning):
     return any([name[:len(beginning)] == beginning for name in names])
 
 
-def first_wrong(parts, lines):
-    """What is wrong (1 to 3), j and i; an empty list if the build is right."""
-    # Of the lines before j no two have a cell at one place: each place has one owner.
-    signs = {}
-    owners = {}
+def fill_room(parts, lines):
+    """The room with the lines put in, up to the first with which something is wrong."""
+    room = Room()
     for j, put in enumerate(lines):
         part = turned_part(parts[put[0]], put[5])
-        if leaves_room(part, put):
-            return [1, j, j]
         cells = cells_in_room(part, put)
-        hit = [owners[place] for place in cells if place in owners]
-        if len(hit) > 0:
-            return [2, j, min(hit)]
-        blocked = blocked_lines(cells, signs, owners)
-        if len(blocked) > 0:
-            return [3, j, min(blocked)]
+        room.wrong = wrong_with(room, part, put, cells, j)
+        if len(room.wrong) > 0:
+            return room
         for place, sign in cells.items():
-            signs[place] = sign
-            owners[place] = j
+            room.signs[place] = sign
+            room.owners[place] = j
+    return room
+
+
+def wrong_with(room, part, put, cells, j):
+    """What is wrong with line j, and with which line; an empty list if nothing is."""
+    if leaves_room(part, put):
+        return [1, j, j]
+    hit = [room.owners[place] for place in cells if place in room.owners]
+    if len(hit) > 0:
+        return [2, j, min(hit)]
+    blocked = blocked_lines(cells, room)
+    if len(blocked) > 0:
+        return [3, j, min(blocked)]
     return []
 
 
@@ -86,14 +105,18 @@ def cells_in_room(part, put):
     return cells
 
 
-def blocked_lines(cells, signs, owners):
+def blocked_lines(cells, room):
     """The lines that have a stud just below a cell without a tube of these cells, or the other way round."""
     blocked = []
     for place, sign in cells.items():
         over = above(place)
-        if has_stud(sign) and over in signs and not has_tube(signs[over]):
-            blocked.append(owners[over])
+        if has_stud(sign) and over in room.signs and not has_tube(room.signs[over]):
+            blocked.append(room.owners[over])
         under = below(place)
-        if not has_tube(sign) and under in signs and has_stud(signs[under]):
-            blocked.append(owners[under])
+        if not has_tube(sign) and under in room.signs and has_stud(room.signs[under]):
+            blocked.append(room.owners[under])
     return blocked
+
+
+def beyond_room(x, y, z):
+    return x >= ROOM_WIDTH or y >= ROOM_DEPTH or z >= ROOM_HEIGHT

@@ -1,5 +1,6 @@
 """Catalogues and builds for the tests, and slow answers made straight from the document's words."""
 
+import random
 import re
 from itertools import product
 
@@ -40,6 +41,15 @@ NAMED = "".join(box(name, 1, 1, 1, "b") for name in NAMES)
 
 # A stud and tube, no stud and tube, a stud alone, a tube alone: parts of one cell each.
 CELLS = box("bare", 1, 1, 1, "#") + box("both", 1, 1, 1, "b") + box("stud", 1, 1, 1, "s") + box("tube", 1, 1, 1, "t")
+
+# An angle, and by hand where its cells are when it is turned 0 to 3 times.
+ANGLE = part("a", "### #..")
+ANGLE_TURNED = [
+    {(0, 0), (1, 0), (2, 0), (0, 1)},
+    {(0, 2), (0, 1), (0, 0), (1, 2)},
+    {(2, 1), (1, 1), (0, 1), (2, 0)},
+    {(1, 0), (1, 1), (1, 2), (0, 0)},
+]
 
 
 def number_form(least, most):
@@ -90,19 +100,32 @@ def slow_cells(layers, turns):
     return ((width, depth, height) if turns in (0, 2) else (depth, width, height)), cells
 
 
+def slow_put(shapes, put):
+    """The last of the line's places, and its cells in the room. put: as build() has it, with its turns."""
+    word, x, y, z, turns = put[:5]
+    size, cells = slow_cells(shapes[word], turns)
+    last = (x + size[0] - 1, y + size[1] - 1, z + size[2] - 1)
+    return last, {(x + p, y + q, z + s): sign for (p, q, s), sign in cells.items()}
+
+
+def slow_spread(shapes, lines):
+    """Of each line its cells in the room."""
+    return [slow_put(shapes, put)[1] for put in lines]
+
+
+def slow_leaves_room(last):
+    return last[0] > 63 or last[1] > 63 or last[2] > 95
+
+
 def slow_check(shapes, lines):
     """check's answer, line by line and pair by pair. shapes: layers by name; lines as build() has them."""
-    spread = []
-    for word, x, y, z, turns in lines:
-        size, cells = slow_cells(shapes[word], turns)
-        last = (x + size[0] - 1, y + size[1] - 1, z + size[2] - 1)
-        spread.append((last, {(x + p, y + q, z + s): sign for (p, q, s), sign in cells.items()}))
-    for j, (last, cells) in enumerate(spread):
-        if last[0] > 63 or last[1] > 63 or last[2] > 95:
+    spread = slow_spread(shapes, lines)
+    for j, cells in enumerate(spread):
+        if slow_leaves_room(slow_put(shapes, lines[j])[0]):
             return [-9, 1, j, j]
         for what, holds in ((2, share_a_place), (3, stud_blocked)):
             for i in range(j):
-                if holds(spread[i][1], cells):
+                if holds(spread[i], cells):
                     return [-9, what, j, i]
     return [0]
 
@@ -117,3 +140,74 @@ def stud_blocked(first, second):
             if sign in "sb" and upper.get((x, y, z + 1), "t") not in "tb":
                 return True
     return False
+
+
+def slow_clutch(first, second):
+    """How many studs of the first line have a cell of the second with a tube just above; of each its cells."""
+    return sum(sign in "sb" and second.get((x, y, z + 1), "#") in "tb" for (x, y, z), sign in first.items())
+
+
+def slow_clutches(shapes, lines):
+    """Row by row the clutch of each line and each."""
+    spread = slow_spread(shapes, lines)
+    return [[slow_clutch(first, second) for second in spread] for first in spread]
+
+
+def slow_groups(shapes, lines):
+    """Of each line the least of its group: what two lines that hold on have is made one until nothing changes."""
+    rows = slow_clutches(shapes, lines)
+    least = list(range(len(lines)))
+    before = None
+    while least != before:
+        before = list(least)
+        for i, j in product(range(len(lines)), repeat=2):
+            if rows[i][j] > 0 or rows[j][i] > 0:
+                least[i] = least[j] = min(least[i], least[j])
+    return least
+
+
+def slow_sizes(shapes, weights, lines):
+    spread = slow_spread(shapes, lines)
+    studs = sum(sum(row) for row in slow_clutches(shapes, lines))
+    groups = len(set(slow_groups(shapes, lines)))
+    weight = sum(weights[put[0]] for put in lines)
+    height = max([z + 1 for cells in spread for x, y, z in cells], default=0)
+    return [len(lines), sum(len(cells) for cells in spread), studs, groups, weight, height]
+
+
+# Parts of many forms, some without a cell at their own (0, 0, 0); frame takes another between its arms.
+SHAPES = {
+    "beam": ("bbb",),
+    "ell": ("bb b.",),
+    "frame": ("#s", "#.", "#t"),
+    "hook": ("..t", "bbs"),
+    "lid": ("tt tt", "#. ##"),
+    "pin": ("b",),
+    "tee": (".b. bbb",),
+    "tile": ("tt tt tt",),
+}
+WEIGHTS = {name: 3 * k + 1 for k, name in enumerate(sorted(SHAPES))}
+SHAPED = "".join(part(name, *SHAPES[name], weight=WEIGHTS[name]) for name in sorted(SHAPES))
+
+
+def grown(source, corner, width, tries):
+    """Lines of a right build of SHAPES: each was kept because nothing is wrong between it and those before it."""
+    kept = []
+    spread = []
+    for k in range(tries):
+        place = tuple(corner[axis] + source.randrange(width) for axis in range(3))
+        put = (source.choice(sorted(SHAPES)),) + place + (source.randrange(4), source.randrange(256))
+        last, cells = slow_put(SHAPES, put)
+        clash = any(share_a_place(other, cells) or stud_blocked(other, cells) for other in spread)
+        if not clash and not slow_leaves_room(last):
+            kept.append(put)
+            spread.append(cells)
+    return kept
+
+
+def grown_builds(seed, count):
+    """Right builds, scattered and crowded, in the room's near and far corners and amid it."""
+    source = random.Random(seed)
+    corners = ((0, 0, 0), (57, 57, 89), (30, 20, 10), (0, 57, 0), (57, 0, 89))
+    return [grown(source, source.choice(corners), source.choice((4, 5, 7)), source.choice((2, 10, 60)))
+            for k in range(count)]

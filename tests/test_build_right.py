@@ -5,7 +5,7 @@ import unittest
 from itertools import product
 
 from brickrooms.builds import check, judge
-from tests.making import CELLS, box, build, given, part, slow_cells, slow_check
+from tests.making import ANGLE, ANGLE_TURNED, CELLS, box, build, given, part, slow_cells, slow_check
 
 
 def answer(catalogue, *lines):
@@ -127,14 +127,8 @@ class StudsAndTubes(unittest.TestCase):
 
 class Turned(unittest.TestCase):
     def test_cells_by_hand(self):
-        catalogue = part("a", "### #..") + box("b", 1, 1, 1)
-        by_hand = [
-            {(0, 0), (1, 0), (2, 0), (0, 1)},
-            {(0, 2), (0, 1), (0, 0), (1, 2)},
-            {(2, 1), (1, 1), (0, 1), (2, 0)},
-            {(1, 0), (1, 1), (1, 2), (0, 0)},
-        ]
-        for turns, cells in enumerate(by_hand):
+        catalogue = ANGLE + box("b", 1, 1, 1)
+        for turns, cells in enumerate(ANGLE_TURNED):
             for x, y in product(range(-1, 4), repeat=2):
                 wanted = [-9, 2, 1, 0] if (x, y) in cells else [0]
                 self.assertEqual(answer(catalogue, ("a", 20, 30, 0, turns), ("b", 20 + x, 30 + y, 0)), wanted)

@@ -3,33 +3,51 @@
 import time
 import unittest
 
-from brickrooms.builds import check, judge, line
+from brickrooms.builds import at, check, clutch, judge, line, sizes
 from tests.making import CELLS, NAMED, NAMES, box, build, given
 
 NO_TEXT = "part"
 NOT_RIGHT = box("b", 1, 1, 1) + box("a", 1, 1, 1)
 GOOD_BUILD = "build a\nput bare 0 0 0 0 0\n"
 CLASHING = "build a\nput bare 0 0 0 0 0\nput bare 0 0 0 0 0\n"
+VERY_LARGE = 10 ** 30
+
+# Each call with one number for all that it takes.
+CALLS = {
+    "judge": lambda i, c, b: judge(c, b),
+    "check": lambda i, c, b: check(c, b),
+    "line": line,
+    "sizes": lambda i, c, b: sizes(c, b),
+    "at": lambda i, c, b: at(i, i, i, c, b),
+    "clutch": lambda i, c, b: clutch(i, i, c, b),
+}
 
 
-def all_three(catalogue, text, i=0):
+def all_calls(catalogue, text, i=0):
     c = given(catalogue)
     b = given(text)
-    return [judge(c, b), check(c, b), line(i, c, b)]
+    return {name: call(i, c, b) for name, call in CALLS.items()}
+
+
+def all_alike(answer):
+    return {name: answer for name in CALLS}
 
 
 class Refusals(unittest.TestCase):
+    def no_build(self, fault):
+        return all_alike([-5]) | {"judge": [-5, fault]}
+
     def test_length_of_b(self):
         # No build's text is that long: but 16,384 bytes are read, and told their fault.
-        for size, wanted in ((16383, [[-5, 7], [-5], [-5]]), (16384, [[-5, 7], [-5], [-5]]), (16385, [[-2]] * 3),
-                             (17000, [[-2]] * 3)):
+        for size, wanted in ((16383, self.no_build(7)), (16384, self.no_build(7)), (16385, all_alike([-2])),
+                             (17000, all_alike([-2]))):
             text = "build a" + " " * (size - 7)
-            self.assertEqual(all_three(CELLS, text), wanted, size)
+            self.assertEqual(all_calls(CELLS, text), wanted, size)
 
     def test_length_of_c(self):
         # Longer than the interface hands in: the calls' own row is kept all the same.
-        self.assertEqual(all_three("x" * 1048576, GOOD_BUILD), [[-6]] * 3)
-        self.assertEqual(all_three("x" * 1048577, GOOD_BUILD), [[-2]] * 3)
+        self.assertEqual(all_calls("x" * 1048576, GOOD_BUILD), all_alike([-6]))
+        self.assertEqual(all_calls("x" * 1048577, GOOD_BUILD), all_alike([-2]))
 
     def test_a_long_beginning_of_a_build(self):
         put = "put longname 255 63 63 95 3\n"
@@ -41,33 +59,51 @@ class Refusals(unittest.TestCase):
 
     def test_length_ahead_of_all(self):
         for catalogue in (NO_TEXT, NOT_RIGHT, CELLS, ""):
-            for start in (GOOD_BUILD, "no build"):
+            for start in (GOOD_BUILD, CLASHING, "no build"):
                 text = start + "x" * (16385 - len(start))
-                self.assertEqual(all_three(catalogue, text, 10 ** 30), [[-2]] * 3)
+                for i in (0, VERY_LARGE):
+                    self.assertEqual(all_calls(catalogue, text, i), all_alike([-2]))
 
     def test_no_catalogue_ahead_of_what_comes_behind(self):
         for catalogue in (NO_TEXT, "", NOT_RIGHT + "x"):
             for text in (GOOD_BUILD, CLASHING, "no build", ""):
-                for i in (0, 7, 10 ** 30):
-                    self.assertEqual(all_three(catalogue, text, i), [[-6]] * 3)
+                for i in (0, 7, VERY_LARGE):
+                    self.assertEqual(all_calls(catalogue, text, i), all_alike([-6]))
 
     def test_catalogue_not_right_ahead_of_what_comes_behind(self):
         for text in (GOOD_BUILD, CLASHING, "no build", "", "build a\nput a 0 0 0 0 0\n"):
-            for i in (0, 7, 10 ** 30):
-                self.assertEqual(all_three(NOT_RIGHT, text, i), [[-8]] * 3)
+            for i in (0, 7, VERY_LARGE):
+                self.assertEqual(all_calls(NOT_RIGHT, text, i), all_alike([-8]))
 
     def test_no_build_ahead_of_what_comes_behind(self):
-        for i in (0, 7, 10 ** 30):
+        for i in (0, 7, VERY_LARGE):
             # The lines that are there clash, but the text breaks off behind them.
-            self.assertEqual(all_three(CELLS, CLASHING + "put", i), [[-5, len(CLASHING) + 3], [-5], [-5]])
+            self.assertEqual(all_calls(CELLS, CLASHING + "put", i), self.no_build(len(CLASHING) + 3))
 
-    def test_wrong_build_is_refused_by_check_alone(self):
-        self.assertEqual(all_three(CELLS, CLASHING, 1), [[2], [-9, 2, 1, 0], [0, 0, 0, 0, 0, 0]])
-        self.assertEqual(all_three(CELLS, CLASHING, 2), [[2], [-9, 2, 1, 0], [-4]])
+    def test_wrong_build_ahead_of_what_comes_behind(self):
+        told = {"judge": [2], "check": [-9, 2, 1, 0]}
+        self.assertEqual(all_calls(CELLS, CLASHING, 1), all_alike([-9]) | told | {"line": [0, 0, 0, 0, 0, 0]})
+        for i in (2, 7, VERY_LARGE):
+            self.assertEqual(all_calls(CELLS, CLASHING, i), all_alike([-9]) | told | {"line": [-4]})
+
+    def test_every_way_of_being_wrong_is_refused(self):
+        catalogue = CELLS + box("two", 2, 1, 1)
+        for lines, wrong in (([("two", 63, 0, 0)], [1, 0, 0]), ([("bare", 9, 0, 0)] * 2, [2, 1, 0]),
+                             ([("stud", 0, 0, 0), ("bare", 0, 0, 1)], [3, 1, 0])):
+            told = all_calls(catalogue, build(*lines), 5)
+            self.assertEqual(told, all_alike([-9]) | {"judge": [len(lines)], "check": [-9] + wrong, "line": [-4]})
+
+    def test_no_such_line_or_place(self):
+        good = {"judge": [1], "check": [0], "sizes": [1, 1, 0, 1, 1, 1]}
+        for i in (96, 256, VERY_LARGE):
+            self.assertEqual(all_calls(CELLS, GOOD_BUILD, i), all_alike([-4]) | good)
+        self.assertEqual(all_calls(CELLS, GOOD_BUILD, 1), all_alike([-4]) | good | {"at": [-3]})
 
     def test_good_ones(self):
-        self.assertEqual(all_three(CELLS, GOOD_BUILD), [[1], [0], [0, 0, 0, 0, 0, 0]])
-        self.assertEqual(all_three(CELLS, "build a\n"), [[0], [0], [-4]])
+        good = {"judge": [1], "check": [0], "line": [0] * 6, "sizes": [1, 1, 0, 1, 1, 1], "at": [0], "clutch": [0]}
+        self.assertEqual(all_calls(CELLS, GOOD_BUILD), good)
+        none = {"judge": [0], "check": [0], "line": [-4], "sizes": [0] * 6, "at": [-3], "clutch": [-4]}
+        self.assertEqual(all_calls(CELLS, "build a\n"), none)
 
 
 class Line(unittest.TestCase):
@@ -98,14 +134,14 @@ class Line(unittest.TestCase):
 
 class WhatIsHandedIn(unittest.TestCase):
     PAIRS = ((CELLS, GOOD_BUILD), (CELLS, CLASHING), (CELLS, "no build"), (NOT_RIGHT, GOOD_BUILD), (NO_TEXT, ""),
-             (NAMED, build((NAMES[1], 1, 2, 3, 2), (NAMES[4], 60, 2, 3, 3))), (CELLS, "x" * 16385))
+             (NAMED, build((NAMES[1], 1, 2, 3, 2), (NAMES[4], 1, 2, 4, 3))), (CELLS, "x" * 16385))
 
     def test_is_as_it_was(self):
         for catalogue, text in self.PAIRS:
             c = given(catalogue)
             b = given(text)
-            for call in (judge, check, lambda c, b: line(0, c, b)):
-                call(c, b)
+            for call in CALLS.values():
+                call(0, c, b)
                 self.assertEqual((c, b), (given(catalogue), given(text)))
 
     def test_is_not_changed_for_a_while_either(self):
@@ -118,38 +154,41 @@ class WhatIsHandedIn(unittest.TestCase):
         for catalogue, text in self.PAIRS:
             c = Sealed(given(catalogue))
             b = Sealed(given(text))
-            self.assertEqual([judge(c, b), check(c, b), line(0, c, b)], all_three(catalogue, text))
+            self.assertEqual({name: call(0, c, b) for name, call in CALLS.items()}, all_calls(catalogue, text))
 
     def test_nothing_is_kept(self):
-        alone = [all_three(catalogue, text) for catalogue, text in self.PAIRS]
+        alone = [all_calls(catalogue, text) for catalogue, text in self.PAIRS]
         for count in range(3):
-            self.assertEqual([all_three(catalogue, text) for catalogue, text in self.PAIRS], alone)
-            self.assertEqual([all_three(catalogue, text) for catalogue, text in self.PAIRS[::-1]], alone[::-1])
+            self.assertEqual([all_calls(catalogue, text) for catalogue, text in self.PAIRS], alone)
+            self.assertEqual([all_calls(catalogue, text) for catalogue, text in self.PAIRS[::-1]], alone[::-1])
 
     def test_an_answer_is_the_caller_s_own(self):
         c = given(CELLS)
         b = given(GOOD_BUILD)
-        for call in (judge, check, lambda c, b: line(0, c, b)):
-            first = call(c, b)
+        for call in CALLS.values():
+            first = call(0, c, b)
             wanted = list(first)
             first.append(99)
             first[0] = 77
-            self.assertEqual(call(c, b), wanted)
+            self.assertEqual(call(0, c, b), wanted)
 
     def test_kinds(self):
         for catalogue, text in self.PAIRS:
-            for answer in all_three(catalogue, text):
+            for answer in all_calls(catalogue, text).values():
                 self.assertIs(type(answer), list)
                 self.assertEqual({type(number) for number in answer}, {int})
 
 
 class AsLargeAsMayBe(unittest.TestCase):
-    def answers(self, c, b, wanted):
+    def answers(self, c, b, wanted, further=None):
+        """wanted: of judge, check and line 255; further: by name what other calls answer, of line 255, too."""
         self.assertLessEqual(len(c), 100000)
         self.assertLessEqual(len(b), 17000)
-        started = time.monotonic()
-        self.assertEqual([judge(c, b), check(c, b), line(255, c, b)], wanted)
-        self.assertLess(time.monotonic() - started, 30)
+        wanted = dict(zip(("judge", "check", "line"), wanted)) | (further or {})
+        for name, answer in wanted.items():
+            started = time.monotonic()
+            self.assertEqual(CALLS[name](255, c, b), answer, name)
+            self.assertLess(time.monotonic() - started, 30)
 
     def test_a_catalogue_of_nearly_100000_bytes(self):
         parts = [box(f"a{k:02}", 16, 16, 18) for k in range(20)]
@@ -168,16 +207,31 @@ class AsLargeAsMayBe(unittest.TestCase):
         # 80 parts of 16 by 16 by 18, turned each way, fill the room up to z 89.
         c = given(box("a", 16, 16, 18, "t" + "#" * 16 + "s"))
         puts = [("a", 16 * x, 16 * y, 18 * z, (x + y + z) % 4) for z in range(5) for y in range(4) for x in range(4)]
-        self.answers(c, given(build(*puts)), [[80], [0], [-4]])
-        self.answers(c, given(build(*puts, puts[79])), [[81], [-9, 2, 80, 79], [-4]])
+        further = {"sizes": [80, 368640, 16384, 16, 80, 90], "at": [-4], "clutch": [-4]}
+        self.answers(c, given(build(*puts)), [[80], [0], [-4]], further)
+        self.assertEqual([at(63, 63, 89, c, given(build(*puts))), at(63, 63, 90, c, given(build(*puts)))], [[79], [-3]])
+        self.assertEqual([clutch(63, 79, c, given(build(*puts))), clutch(79, 63, c, given(build(*puts)))], [[256], [0]])
+        self.answers(c, given(build(*puts, puts[79])), [[81], [-9, 2, 80, 79], [-4]], {"sizes": [-9], "at": [-9]})
 
     def test_256_lines(self):
         c = given(box("a", 4, 4, 6, "t" + "#" * 4 + "s"))
         puts = [("a", 4 * (k % 16), 4 * (k // 16), 0, k % 4, k) for k in range(256)]
-        self.answers(c, given(build(*puts)), [[256], [0], [0, 255, 60, 60, 0, 3]])
+        further = {"sizes": [256, 256 * 96, 0, 256, 256, 6], "at": [-4], "clutch": [0]}
+        self.answers(c, given(build(*puts)), [[256], [0], [0, 255, 60, 60, 0, 3]], further)
         self.answers(c, given(build(*puts[:255], ("a", 0, 0, 0))), [[256], [-9, 2, 255, 0], [0, 0, 0, 0, 0, 0]])
         self.answers(c, given(build(*puts[:255], ("a", 1, 1, 4))), [[256], [-9, 2, 255, 0], [0, 0, 1, 1, 4, 0]])
-        self.answers(c, given(build(*puts[:255], ("a", 3, 3, 6))), [[256], [0], [0, 0, 3, 3, 6, 0]])
+        further = {"sizes": [256, 256 * 96, 16, 252, 256, 12], "clutch": [0]}
+        self.answers(c, given(build(*puts[:255], ("a", 3, 3, 6))), [[256], [0], [0, 0, 3, 3, 6, 0]], further)
+
+    def test_a_chain_of_256_lines(self):
+        # Each line holds on to the next one alone: recursion from line to line would go as deep.
+        c = given(box("one", 1, 1, 1, "b") + box("two", 2, 1, 1, "b"))
+        chain = [("one", 0, 0, z) for z in range(95)] + [("two", 0, 0, 95)]
+        chain += [("one", 1, 0, z) for z in range(94, 0, -1)] + [("two", 1, 0, 0)]
+        chain += [("one", 2, 0, z) for z in range(1, 66)]
+        for order in (chain, chain[::-1], chain[1::2] + chain[::2]):
+            self.assertEqual(sizes(c, given(build(*order))), [256, 258, 255, 1, 256, 96])
+        self.assertEqual(sizes(c, given(build(*chain[:100], *chain[101:]))), [255, 257, 253, 2, 255, 96])
 
     def test_256_lines_in_one_another(self):
         # An angle with a post at its corner: moved along the slant, places overlap, but no cells do.
@@ -185,7 +239,8 @@ class AsLargeAsMayBe(unittest.TestCase):
         layers = [[full] + [left] * 15] + [[left] + [none] * 15] * 15
         c = given("part a 16 16 16 1\n" + "".join(row + "\n" for layer in layers for row in layer))
         puts = [("a", k % 49, k % 49, 16 * (k // 49)) for k in range(256)]
-        self.answers(c, given(build(*puts)), [[256], [0], [0, 0, 10, 10, 80, 0]])
+        further = {"sizes": [256, 256 * 46, 0, 256, 256, 96], "at": [-4], "clutch": [0]}
+        self.answers(c, given(build(*puts)), [[256], [0], [0, 0, 10, 10, 80, 0]], further)
         self.answers(c, given(build(*puts[:255], ("a", 0, 1, 0))), [[256], [-9, 2, 255, 0], [0, 0, 0, 1, 0, 0]])
 
     def test_a_part_whose_cells_are_one_long_way(self):
