@@ -2,7 +2,8 @@
 
 from brickrooms.catalogues import catalogue_right, read_catalogue
 from brickrooms.holding import clutches, least_of_groups
-from brickrooms.rooms import beyond_room, fill_room, read_build
+from brickrooms.moves import moved_lines, turned_lines
+from brickrooms.rooms import MOST_TURNS, Build, beyond_room, build_text, fill_room, leaves_room, read_build
 from brickrooms.texts import Stuck
 
 MOST_CATALOGUE_BYTES = 1048576
@@ -12,39 +13,49 @@ MOST_BUILD_BYTES = 16384
 class Given:
     """What c and b hold, and where asked for the room; or the refusal, below 0, and with -5 the fault."""
 
-    def __init__(self, refusal, fault, parts, lines):
+    def __init__(self, refusal, fault, parts, build):
         self.refusal = refusal
         self.fault = fault
         self.parts = parts
-        self.lines = lines
+        self.build = build
         self.room = None
 
 
 def read_given(c, b):
     """Looks at what all calls refuse, in the document's order."""
     if len(c) > MOST_CATALOGUE_BYTES or len(b) > MOST_BUILD_BYTES:
-        return Given(-2, 0, [], [])
+        return Given(-2, 0, [], None)
     try:
         parts = read_catalogue(c)
     except Stuck:
-        return Given(-6, 0, [], [])
+        return Given(-6, 0, [], None)
     if not catalogue_right(parts):
-        return Given(-8, 0, [], [])
+        return Given(-8, 0, [], None)
     try:
-        lines = read_build(b, [part.name for part in parts])
+        build = read_build(b, names_of(parts))
     except Stuck as e:
-        return Given(-5, e.fault, [], [])
-    return Given(0, 0, parts, lines)
+        return Given(-5, e.fault, [], None)
+    return Given(0, 0, parts, build)
+
+
+def names_of(parts):
+    return [part.name for part in parts]
 
 
 def read_right(c, b):
     """The room is filled, too; refused with -9 if the build is not right."""
     given = read_given(c, b)
     if given.refusal == 0:
-        given.room = fill_room(given.parts, given.lines)
+        given.room = fill_room(given.parts, given.build.lines)
         if len(given.room.wrong) > 0:
             given.refusal = -9
     return given
+
+
+def with_lines(given, lines):
+    """The answer that tells the text of the build with these lines in the place of its own."""
+    text = build_text(Build(given.build.name, lines), names_of(given.parts))
+    return [len(text)] + text
 
 
 def judge(c, b):
@@ -54,7 +65,7 @@ def judge(c, b):
         return [-5, given.fault]
     if given.refusal < 0:
         return [given.refusal]
-    return [len(given.lines)]
+    return [len(given.build.lines)]
 
 
 def check(c, b):
@@ -70,9 +81,9 @@ def line(i, c, b):
     given = read_given(c, b)
     if given.refusal < 0:
         return [given.refusal]
-    if i >= len(given.lines):
+    if i >= len(given.build.lines):
         return [-4]
-    return list(given.lines[i])
+    return list(given.build.lines[i])
 
 
 def sizes(c, b):
@@ -81,10 +92,10 @@ def sizes(c, b):
     if given.refusal < 0:
         return [given.refusal]
     counts = clutches(given.room)
-    groups = len(set(least_of_groups(len(given.lines), counts)))
-    weight = sum([given.parts[put[0]].weight for put in given.lines])
+    groups = len(set(least_of_groups(len(given.build.lines), counts)))
+    weight = sum([given.parts[put[0]].weight for put in given.build.lines])
     height = max([place[2] + 1 for place in given.room.signs], default=0)
-    return [len(given.lines), len(given.room.signs), sum(counts.values()), groups, weight, height]
+    return [len(given.build.lines), len(given.room.signs), sum(counts.values()), groups, weight, height]
 
 
 def at(x, y, z, c, b):
@@ -102,6 +113,37 @@ def clutch(i, j, c, b):
     given = read_right(c, b)
     if given.refusal < 0:
         return [given.refusal]
-    if i >= len(given.lines) or j >= len(given.lines):
+    if i >= len(given.build.lines) or j >= len(given.build.lines):
         return [-4]
     return [clutches(given.room).get((i, j), 0)]
+
+
+def group(i, c, b):
+    """The least line of line i's group; -4 if there is no such line."""
+    given = read_right(c, b)
+    if given.refusal < 0:
+        return [given.refusal]
+    if i >= len(given.build.lines):
+        return [-4]
+    return [least_of_groups(len(given.build.lines), clutches(given.room))[i]]
+
+
+def moved(dx, dy, dz, c, b):
+    """How many bytes the build's text moved has, and they; -3 if one of its places would be beyond the room."""
+    given = read_right(c, b)
+    if given.refusal < 0:
+        return [given.refusal]
+    lines = moved_lines(given.build.lines, dx, dy, dz)
+    if any([leaves_room(given.parts, put) for put in lines]):
+        return [-3]
+    return with_lines(given, lines)
+
+
+def turned(r, c, b):
+    """How many bytes the build's text turned r times and moved home has, and they; -1 if r is above 3."""
+    if r > MOST_TURNS:
+        return [-1]
+    given = read_right(c, b)
+    if given.refusal < 0:
+        return [given.refusal]
+    return with_lines(given, turned_lines(given.parts, given.build.lines, r))

@@ -143,6 +143,13 @@ def names_grow(parts):
     return True
 
 
+def turned_sizes(part, turns):
+    """Width, depth and height of the part turned."""
+    if turns % 2 == 1:
+        return (part.depth, part.width, part.height)
+    return (part.width, part.depth, part.height)
+
+
 def turned_part(part, turns):
     for turn in range(turns):
         part = turned_once(part)

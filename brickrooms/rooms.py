@@ -3,8 +3,8 @@
 A line is a tuple: its part's number, colour, x, y, z, turns.
 """
 
-from brickrooms.catalogues import above, below, has_stud, has_tube, turned_part
-from brickrooms.texts import Reader, Stuck
+from brickrooms.catalogues import above, below, has_stud, has_tube, turned_part, turned_sizes
+from brickrooms.texts import Reader, Stuck, spelled
 
 ROOM_WIDTH = 64
 ROOM_DEPTH = 64
@@ -14,6 +14,14 @@ LONGEST_BUILD_NAME = 16
 MOST_LINES = 256
 MOST_COLOUR = 255
 MOST_TURNS = 3
+
+
+class Build:
+    """name: its bytes; lines: right or not."""
+
+    def __init__(self, name, lines):
+        self.name = name
+        self.lines = lines
 
 
 class Room:
@@ -30,16 +38,16 @@ class Room:
 
 
 def read_build(b, names):
-    """The lines, right or not; Stuck if b is no build's text of the catalogue with these names."""
+    """The build, right or not; Stuck if b is no build's text of the catalogue with these names."""
     reader = Reader(b)
     reader.read_word("build ")
-    reader.read_name(LONGEST_BUILD_NAME)
+    name = reader.read_name(LONGEST_BUILD_NAME)
     reader.read_word("\n")
     lines = []
     while len(lines) < MOST_LINES and not reader.ended():
         lines.append(read_line(reader, names))
     reader.read_end()
-    return lines
+    return Build(name, lines)
 
 
 def read_line(reader, names):
@@ -66,13 +74,23 @@ def some_begins(names, beginning):
     return any([name[:len(beginning)] == beginning for name in names])
 
 
+def build_text(build, names):
+    """The build's text; names: the catalogue's."""
+    text = spelled("build ") + list(build.name) + spelled("\n")
+    for put in build.lines:
+        text.extend(spelled("put ") + list(names[put[0]]))
+        for number in put[1:]:
+            text.extend(spelled(f" {number}"))
+        text.extend(spelled("\n"))
+    return text
+
+
 def fill_room(parts, lines):
     """The room with the lines put in, up to the first with which something is wrong."""
     room = Room()
     for j, put in enumerate(lines):
-        part = turned_part(parts[put[0]], put[5])
-        cells = cells_in_room(part, put)
-        room.wrong = wrong_with(room, part, put, cells, j)
+        cells = cells_in_room(parts, put)
+        room.wrong = [1, j, j] if leaves_room(parts, put) else wrong_with(room, cells, j)
         if len(room.wrong) > 0:
             return room
         for place, sign in cells.items():
@@ -81,10 +99,8 @@ def fill_room(parts, lines):
     return room
 
 
-def wrong_with(room, part, put, cells, j):
-    """What is wrong with line j, and with which line; an empty list if nothing is."""
-    if leaves_room(part, put):
-        return [1, j, j]
+def wrong_with(room, cells, j):
+    """What is wrong between line j, of which these are the cells, and a line in the room; an empty list if nothing."""
     hit = [room.owners[place] for place in cells if place in room.owners]
     if len(hit) > 0:
         return [2, j, min(hit)]
@@ -94,13 +110,20 @@ def wrong_with(room, part, put, cells, j):
     return []
 
 
-def leaves_room(part, put):
-    return put[2] + part.width > ROOM_WIDTH or put[3] + part.depth > ROOM_DEPTH or put[4] + part.height > ROOM_HEIGHT
+def leaves_room(parts, put):
+    """Whether one of the line's places, with a cell or without, is beyond the room."""
+    size = turned_sizes(parts[put[0]], put[5])
+    return beyond_room(put[2], put[3], put[4]) or beyond_room(
+        put[2] + size[0] - 1, put[3] + size[1] - 1, put[4] + size[2] - 1)
 
 
-def cells_in_room(part, put):
+def beyond_room(x, y, z):
+    return not (0 <= x < ROOM_WIDTH and 0 <= y < ROOM_DEPTH and 0 <= z < ROOM_HEIGHT)
+
+
+def cells_in_room(parts, put):
     cells = {}
-    for place, sign in part.cells.items():
+    for place, sign in turned_part(parts[put[0]], put[5]).cells.items():
         cells[(put[2] + place[0], put[3] + place[1], put[4] + place[2])] = sign
     return cells
 
@@ -116,7 +139,3 @@ def blocked_lines(cells, room):
         if not has_tube(sign) and under in room.signs and has_stud(room.signs[under]):
             blocked.append(room.owners[under])
     return blocked
-
-
-def beyond_room(x, y, z):
-    return x >= ROOM_WIDTH or y >= ROOM_DEPTH or z >= ROOM_HEIGHT

@@ -1,4 +1,4 @@
-"""Reading a text byte by byte, up to the first byte with which no text of its sort goes on."""
+"""Reading a text byte by byte, up to the first byte with which no text of its sort goes on; and spelling words."""
 
 # Behind the last byte there is none: a number that no byte is.
 NO_BYTE = 256
@@ -17,6 +17,11 @@ def is_letter(byte):
 
 def is_digit(byte):
     return ord("0") <= byte <= ord("9")
+
+
+def spelled(word):
+    """The word's bytes."""
+    return [ord(sign) for sign in word]
 
 
 class Reader:

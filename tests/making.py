@@ -26,6 +26,11 @@ def part(name, *layers, weight=1):
     return head + "".join(row + "\n" for layer in rows for row in layer)
 
 
+def told(text):
+    """How a text is answered."""
+    return [len(text)] + given(text)
+
+
 def build(*lines, name="a"):
     """A build's text; a line is written (part's name, x, y, z) or with turns and colour behind."""
     text = f"build {name}\n"
@@ -173,6 +178,28 @@ def slow_sizes(shapes, weights, lines):
     weight = sum(weights[put[0]] for put in lines)
     height = max([z + 1 for cells in spread for x, y, z in cells], default=0)
     return [len(lines), sum(len(cells) for cells in spread), studs, groups, weight, height]
+
+
+def slow_turned(shapes, lines, turns):
+    """The lines turned and moved home, cell by cell; then each line's place is sought by its cells."""
+    spread = slow_spread(shapes, lines)
+    for turn in range(turns):
+        spread = [{(y, 63 - x, z): sign for (x, y, z), sign in cells.items()} for cells in spread]
+    found = []
+    for put, cells in zip(lines, spread):
+        after = (put[4] + turns) % 4
+        own = slow_cells(shapes[put[0]], after)[1]
+        place = tuple(a - b for a, b in zip(least_of(cells), least_of(own)))
+        again = (put[0],) + place + (after,) + tuple(put[5:])
+        if slow_put(shapes, again)[1] != cells:
+            raise ValueError("no place has these cells")
+        found.append(again)
+    home = least_of([place for cells in spread for place in cells]) if lines else None
+    return [(put[0],) + tuple(a - b for a, b in zip(put[1:4], home)) + tuple(put[4:]) for put in found]
+
+
+def least_of(places):
+    return tuple(min(place[axis] for place in places) for axis in range(3))
 
 
 # Parts of many forms, some without a cell at their own (0, 0, 0); frame takes another between its arms.

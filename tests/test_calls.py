@@ -3,8 +3,8 @@
 import time
 import unittest
 
-from brickrooms.builds import at, check, clutch, judge, line, sizes
-from tests.making import CELLS, NAMED, NAMES, box, build, given
+from brickrooms.builds import at, check, clutch, group, judge, line, moved, sizes, turned
+from tests.making import CELLS, NAMED, NAMES, box, build, given, told
 
 NO_TEXT = "part"
 NOT_RIGHT = box("b", 1, 1, 1) + box("a", 1, 1, 1)
@@ -20,6 +20,10 @@ CALLS = {
     "sizes": lambda i, c, b: sizes(c, b),
     "at": lambda i, c, b: at(i, i, i, c, b),
     "clutch": lambda i, c, b: clutch(i, i, c, b),
+    "group": group,
+    "moved": lambda i, c, b: moved(i, i, i, c, b),
+    # -1 goes ahead of all else: it has a test of its own.
+    "turned": lambda i, c, b: turned(min(i, 3), c, b),
 }
 
 
@@ -81,28 +85,40 @@ class Refusals(unittest.TestCase):
             self.assertEqual(all_calls(CELLS, CLASHING + "put", i), self.no_build(len(CLASHING) + 3))
 
     def test_wrong_build_ahead_of_what_comes_behind(self):
-        told = {"judge": [2], "check": [-9, 2, 1, 0]}
-        self.assertEqual(all_calls(CELLS, CLASHING, 1), all_alike([-9]) | told | {"line": [0, 0, 0, 0, 0, 0]})
+        refused = all_alike([-9]) | {"judge": [2], "check": [-9, 2, 1, 0]}
+        self.assertEqual(all_calls(CELLS, CLASHING, 1), refused | {"line": [0, 0, 0, 0, 0, 0]})
         for i in (2, 7, VERY_LARGE):
-            self.assertEqual(all_calls(CELLS, CLASHING, i), all_alike([-9]) | told | {"line": [-4]})
+            self.assertEqual(all_calls(CELLS, CLASHING, i), refused | {"line": [-4]})
+        self.assertEqual(moved(-1, 0, -VERY_LARGE, given(CELLS), given(CLASHING)), [-9])
 
     def test_every_way_of_being_wrong_is_refused(self):
         catalogue = CELLS + box("two", 2, 1, 1)
         for lines, wrong in (([("two", 63, 0, 0)], [1, 0, 0]), ([("bare", 9, 0, 0)] * 2, [2, 1, 0]),
                              ([("stud", 0, 0, 0), ("bare", 0, 0, 1)], [3, 1, 0])):
-            told = all_calls(catalogue, build(*lines), 5)
-            self.assertEqual(told, all_alike([-9]) | {"judge": [len(lines)], "check": [-9] + wrong, "line": [-4]})
+            refused = all_alike([-9]) | {"judge": [len(lines)], "check": [-9] + wrong, "line": [-4]}
+            self.assertEqual(all_calls(catalogue, build(*lines), 5), refused)
+
+    def test_turns_above_3_ahead_of_all(self):
+        for r in (4, 5, 255, 2 ** 32, 2 ** 64, VERY_LARGE):
+            for catalogue in (NO_TEXT, "", NOT_RIGHT, CELLS, "x" * 1048577):
+                for text in (GOOD_BUILD, CLASHING, "no build", "", "x" * 16385):
+                    self.assertEqual(turned(r, given(catalogue), given(text)), [-1])
 
     def test_no_such_line_or_place(self):
-        good = {"judge": [1], "check": [0], "sizes": [1, 1, 0, 1, 1, 1]}
+        good = {"judge": [1], "check": [0], "sizes": [1, 1, 0, 1, 1, 1], "moved": [-3],
+                "turned": told("build a\nput bare 0 0 0 0 3\n")}
         for i in (96, 256, VERY_LARGE):
             self.assertEqual(all_calls(CELLS, GOOD_BUILD, i), all_alike([-4]) | good)
-        self.assertEqual(all_calls(CELLS, GOOD_BUILD, 1), all_alike([-4]) | good | {"at": [-3]})
+        near = {"at": [-3], "moved": told("build a\nput bare 0 1 1 1 0\n"),
+                "turned": told("build a\nput bare 0 0 0 0 1\n")}
+        self.assertEqual(all_calls(CELLS, GOOD_BUILD, 1), all_alike([-4]) | good | near)
 
     def test_good_ones(self):
-        good = {"judge": [1], "check": [0], "line": [0] * 6, "sizes": [1, 1, 0, 1, 1, 1], "at": [0], "clutch": [0]}
+        good = {"judge": [1], "check": [0], "line": [0] * 6, "sizes": [1, 1, 0, 1, 1, 1], "at": [0], "clutch": [0],
+                "group": [0], "moved": told(GOOD_BUILD), "turned": told(GOOD_BUILD)}
         self.assertEqual(all_calls(CELLS, GOOD_BUILD), good)
-        none = {"judge": [0], "check": [0], "line": [-4], "sizes": [0] * 6, "at": [-3], "clutch": [-4]}
+        none = {"judge": [0], "check": [0], "line": [-4], "sizes": [0] * 6, "at": [-3], "clutch": [-4],
+                "group": [-4], "moved": told("build a\n"), "turned": told("build a\n")}
         self.assertEqual(all_calls(CELLS, "build a\n"), none)
 
 
@@ -110,16 +126,16 @@ class Line(unittest.TestCase):
     TEXT = build(("tube", 1, 2, 3, 1, 255), ("bare", 63, 62, 95, 3, 7), ("stud", 10, 20, 30, 2, 40), ("bare", 0, 0, 0))
 
     def test_six_numbers_in_order(self):
-        told = [line(i, given(CELLS), given(self.TEXT)) for i in range(4)]
+        answers = [line(i, given(CELLS), given(self.TEXT)) for i in range(4)]
         wanted = [[3, 255, 1, 2, 3, 1], [0, 7, 63, 62, 95, 3], [2, 40, 10, 20, 30, 2], [0, 0, 0, 0, 0, 0]]
-        self.assertEqual(told, wanted)
+        self.assertEqual(answers, wanted)
 
     def test_of_a_build_that_is_not_right(self):
         catalogue = given(CELLS + box("two", 2, 1, 1))
         text = given(build(("two", 63, 0, 0, 0, 9), ("both", 3, 3, 3), ("both", 3, 3, 3), ("stud", 3, 3, 4, 2)))
         self.assertEqual(check(catalogue, text), [-9, 1, 0, 0])
-        told = [line(i, catalogue, text) for i in range(5)]
-        self.assertEqual(told, [[4, 9, 63, 0, 0, 0], [1, 0, 3, 3, 3, 0], [1, 0, 3, 3, 3, 0], [2, 0, 3, 3, 4, 2], [-4]])
+        answers = [line(i, catalogue, text) for i in range(5)]
+        self.assertEqual(answers, [[4, 9, 63, 0, 0, 0], [1, 0, 3, 3, 3, 0], [1, 0, 3, 3, 3, 0], [2, 0, 3, 3, 4, 2], [-4]])
 
     def test_no_such_line(self):
         for i in (4, 5, 255, 256, 257, 2 ** 32, 2 ** 64, 10 ** 30 - 1, 10 ** 30):
@@ -195,7 +211,9 @@ class AsLargeAsMayBe(unittest.TestCase):
         text = "".join(parts)
         text += "".join(box(f"b{k:02}", 16, 1, 1) for k in range(44))
         self.assertEqual(judge(given(text), given("build a\n")), [0])
-        self.answers(given(text), given("build a\nput a19 0 0 0 0 3\n"), [[1], [0], [-4]])
+        further = {"sizes": [1, 4608, 0, 1, 1, 18], "at": [-4], "clutch": [-4], "group": [-4], "moved": [-3],
+                   "turned": told("build a\nput a19 0 0 0 0 2\n")}
+        self.answers(given(text), given("build a\nput a19 0 0 0 0 3\n"), [[1], [0], [-4]], further)
 
     def test_100000_bytes_that_are_no_catalogue(self):
         for sign in "p#\n\x00\xff":
@@ -207,20 +225,27 @@ class AsLargeAsMayBe(unittest.TestCase):
         # 80 parts of 16 by 16 by 18, turned each way, fill the room up to z 89.
         c = given(box("a", 16, 16, 18, "t" + "#" * 16 + "s"))
         puts = [("a", 16 * x, 16 * y, 18 * z, (x + y + z) % 4) for z in range(5) for y in range(4) for x in range(4)]
-        further = {"sizes": [80, 368640, 16384, 16, 80, 90], "at": [-4], "clutch": [-4]}
-        self.answers(c, given(build(*puts)), [[80], [0], [-4]], further)
-        self.assertEqual([at(63, 63, 89, c, given(build(*puts))), at(63, 63, 90, c, given(build(*puts)))], [[79], [-3]])
-        self.assertEqual([clutch(63, 79, c, given(build(*puts))), clutch(79, 63, c, given(build(*puts)))], [[256], [0]])
-        self.answers(c, given(build(*puts, puts[79])), [[81], [-9, 2, 80, 79], [-4]], {"sizes": [-9], "at": [-9]})
+        b = given(build(*puts))
+        last = [("a", 48 - y, x, z, (turns + 3) % 4) for name, x, y, z, turns in puts]
+        further = {"sizes": [80, 368640, 16384, 16, 80, 90], "at": [-4], "clutch": [-4], "group": [-4], "moved": [-3],
+                   "turned": told(build(*last))}
+        self.answers(c, b, [[80], [0], [-4]], further)
+        self.assertEqual([at(63, 63, 89, c, b), at(63, 63, 90, c, b)], [[79], [-3]])
+        self.assertEqual([clutch(63, 79, c, b), clutch(79, 63, c, b)], [[256], [0]])
+        self.assertEqual([group(79, c, b), group(64, c, b)], [[15], [0]])
+        high = [(name, x, y, z + 6, turns) for name, x, y, z, turns in puts]
+        self.assertEqual([moved(0, 0, 6, c, b), moved(0, 0, 7, c, b)], [told(build(*high)), [-3]])
+        refused = {name: [-9] for name in ("sizes", "at", "clutch", "group", "moved", "turned")}
+        self.answers(c, given(build(*puts, puts[79])), [[81], [-9, 2, 80, 79], [-4]], refused)
 
     def test_256_lines(self):
         c = given(box("a", 4, 4, 6, "t" + "#" * 4 + "s"))
         puts = [("a", 4 * (k % 16), 4 * (k // 16), 0, k % 4, k) for k in range(256)]
-        further = {"sizes": [256, 256 * 96, 0, 256, 256, 6], "at": [-4], "clutch": [0]}
+        further = {"sizes": [256, 256 * 96, 0, 256, 256, 6], "at": [-4], "clutch": [0], "group": [255], "moved": [-3]}
         self.answers(c, given(build(*puts)), [[256], [0], [0, 255, 60, 60, 0, 3]], further)
         self.answers(c, given(build(*puts[:255], ("a", 0, 0, 0))), [[256], [-9, 2, 255, 0], [0, 0, 0, 0, 0, 0]])
         self.answers(c, given(build(*puts[:255], ("a", 1, 1, 4))), [[256], [-9, 2, 255, 0], [0, 0, 1, 1, 4, 0]])
-        further = {"sizes": [256, 256 * 96, 16, 252, 256, 12], "clutch": [0]}
+        further = {"sizes": [256, 256 * 96, 16, 252, 256, 12], "clutch": [0], "group": [0]}
         self.answers(c, given(build(*puts[:255], ("a", 3, 3, 6))), [[256], [0], [0, 0, 3, 3, 6, 0]], further)
 
     def test_a_chain_of_256_lines(self):
@@ -231,7 +256,10 @@ class AsLargeAsMayBe(unittest.TestCase):
         chain += [("one", 2, 0, z) for z in range(1, 66)]
         for order in (chain, chain[::-1], chain[1::2] + chain[::2]):
             self.assertEqual(sizes(c, given(build(*order))), [256, 258, 255, 1, 256, 96])
-        self.assertEqual(sizes(c, given(build(*chain[:100], *chain[101:]))), [255, 257, 253, 2, 255, 96])
+            self.assertEqual([group(i, c, given(build(*order))) for i in (0, 127, 255)], [[0]] * 3)
+        parted = given(build(*chain[:100], *chain[101:]))
+        self.assertEqual(sizes(c, parted), [255, 257, 253, 2, 255, 96])
+        self.assertEqual([group(i, c, parted) for i in (0, 99, 100, 254)], [[0], [0], [100], [100]])
 
     def test_256_lines_in_one_another(self):
         # An angle with a post at its corner: moved along the slant, places overlap, but no cells do.
@@ -239,7 +267,8 @@ class AsLargeAsMayBe(unittest.TestCase):
         layers = [[full] + [left] * 15] + [[left] + [none] * 15] * 15
         c = given("part a 16 16 16 1\n" + "".join(row + "\n" for layer in layers for row in layer))
         puts = [("a", k % 49, k % 49, 16 * (k // 49)) for k in range(256)]
-        further = {"sizes": [256, 256 * 46, 0, 256, 256, 96], "at": [-4], "clutch": [0]}
+        further = {"sizes": [256, 256 * 46, 0, 256, 256, 96], "at": [-4], "clutch": [0], "group": [255],
+                   "moved": [-3], "turned": told(build(*[("a", 48 - y, x, z, 3) for name, x, y, z in puts]))}
         self.answers(c, given(build(*puts)), [[256], [0], [0, 0, 10, 10, 80, 0]], further)
         self.answers(c, given(build(*puts[:255], ("a", 0, 1, 0))), [[256], [-9, 2, 255, 0], [0, 0, 0, 1, 0, 0]])
 

@@ -59,6 +59,14 @@ def bound_names(path):
             yield node.name
 
 
+def top_names(path):
+    for node in ast.parse(path.read_text()).body:
+        if isinstance(node, (ast.FunctionDef, ast.ClassDef)):
+            yield node.name
+        elif isinstance(node, ast.Assign):
+            yield node.targets[0].id
+
+
 class Form(unittest.TestCase):
     def test_files(self):
         names = [path.name for path in files()]
@@ -112,9 +120,7 @@ class Form(unittest.TestCase):
                 if isinstance(node, ast.ImportFrom):
                     source = PACKAGE / (node.module.split(".")[1] + ".py")
                     draws[path.stem].add(source.stem)
-                    top = ast.parse(source.read_text()).body
-                    defined = {inner.name for inner in top if isinstance(inner, (ast.FunctionDef, ast.ClassDef))}
-                    self.assertLessEqual({name.name for name in node.names}, defined)
+                    self.assertLessEqual({name.name for name in node.names}, set(top_names(source)))
         while draws:
             free = [stem for stem in draws if not draws[stem] & set(draws)]
             self.assertNotEqual(free, [], "files draw from one another")

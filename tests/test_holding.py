@@ -1,11 +1,11 @@
-"""What holds on to what: sizes and clutch."""
+"""What holds on to what: sizes, clutch and group."""
 
 import unittest
 from itertools import permutations, product
 
-from brickrooms.builds import check, clutch, line, sizes
+from brickrooms.builds import check, clutch, group, line, sizes
 from tests.making import (CELLS, SHAPED, SHAPES, WEIGHTS, box, build, given, grown_builds, part, slow_clutches,
-                          slow_sizes)
+                          slow_groups, slow_sizes)
 
 # A plate that holds on above and below, one that is smooth all over, and one whose arms are above and below others.
 PLATES = (part("arms", "#s", "#.", "#.", "#t", weight=40) + part("core", "t", "s", weight=5)
@@ -18,6 +18,14 @@ def sizes_of(catalogue, *lines):
 
 def clutch_of(i, j, catalogue, *lines):
     return clutch(i, j, given(catalogue), given(build(*lines)))
+
+
+def groups_of(catalogue, *lines):
+    """Line by line the least of its group."""
+    c = given(catalogue)
+    b = given(build(*lines))
+    answers = [group(i, c, b) for i in range(len(lines))]
+    return answers[0] if answers and answers[0][0] < 0 else [number for answer in answers for number in answer]
 
 
 class Sizes(unittest.TestCase):
@@ -194,6 +202,60 @@ class Clutch(unittest.TestCase):
             self.assertEqual(clutch_of(i, j, PLATES, *lines), [-9])
 
 
+class Group(unittest.TestCase):
+    def test_ordinary(self):
+        lines = [("plate", 8, 8, 0), ("plate", 0, 0, 0), ("plate", 1, 1, 1), ("plate", 9, 8, 1)]
+        self.assertEqual(groups_of(PLATES, *lines), [0, 1, 1, 0])
+
+    def test_a_line_by_itself(self):
+        self.assertEqual(groups_of(PLATES, ("plate", 0, 0, 0)), [0])
+        self.assertEqual(groups_of(PLATES, ("plate", 0, 0, 0), ("plate", 8, 0, 0), ("plate", 4, 0, 9)), [0, 1, 2])
+        # It stands between the lines of another group.
+        self.assertEqual(groups_of(PLATES, ("plate", 0, 0, 0), ("plate", 8, 0, 0), ("plate", 0, 0, 1)), [0, 1, 0])
+
+    def test_touching_is_no_holding_on(self):
+        for place in ((2, 0, 0), (0, 2, 0), (2, 2, 0), (2, 2, 1), (0, 0, 2)):
+            self.assertEqual(groups_of(PLATES, ("plate", 0, 0, 0), ("plate",) + place), [0, 1])
+        self.assertEqual(groups_of(PLATES, ("smooth", 0, 0, 0), ("smooth", 0, 0, 1)), [0, 1])
+        self.assertEqual(groups_of(PLATES, ("smooth", 0, 0, 0), ("plate", 0, 0, 1)), [0, 1])
+
+    def test_held_from_above_or_from_below(self):
+        lines = [("plate", 0, 0, 0), ("plate", 1, 1, 1)]
+        self.assertEqual(groups_of(PLATES, *lines), [0, 0])
+        self.assertEqual(groups_of(PLATES, *lines[::-1]), [0, 0])
+        lines = [("arms", 0, 0, 0), ("core", 1, 0, 1)]
+        self.assertEqual(groups_of(PLATES, *lines), [0, 0])
+        self.assertEqual(groups_of(PLATES, *lines[::-1]), [0, 0])
+
+    def test_first_and_last_line_of_a_group(self):
+        tower = [("plate", 0, 0, z) for z in range(6)]
+        for lines in (tower, tower[::-1], tower[::2] + tower[1::2], tower[1::2] + tower[::2]):
+            self.assertEqual(groups_of(PLATES, ("plate", 9, 9, 0), *lines, ("plate", 20, 9, 0)), [0] + [1] * 6 + [7])
+
+    def test_together_only_by_a_later_line(self):
+        feet = [("plate", 2 * k, 0, 0) for k in range(4)]
+        self.assertEqual(groups_of(PLATES, *feet), [0, 1, 2, 3])
+        self.assertEqual(groups_of(PLATES, *feet, ("plate", 5, 0, 1)), [0, 1, 2, 2, 2])
+        self.assertEqual(groups_of(PLATES, *feet, ("plate", 5, 0, 1), ("plate", 1, 0, 1)), [0, 0, 2, 2, 2, 0])
+        caps = [("plate", 5, 0, 1), ("plate", 1, 0, 1), ("plate", 3, 0, 1)]
+        self.assertEqual(groups_of(PLATES, *feet, *caps), [0] * 7)
+        for order in permutations(caps):
+            self.assertEqual(groups_of(PLATES, *order, *feet[::-1]), [0] * 7)
+
+    def test_no_such_line(self):
+        c = given(PLATES)
+        b = given(build(("plate", 0, 0, 0), ("plate", 0, 0, 1)))
+        self.assertEqual([group(0, c, b), group(1, c, b)], [[0], [0]])
+        for i in (2, 3, 255, 256, 2 ** 32, 2 ** 64, 10 ** 30 - 1, 10 ** 30):
+            self.assertEqual(group(i, c, b), [-4])
+        self.assertEqual(group(0, c, given("build a\n")), [-4])
+
+    def test_not_right(self):
+        b = given(build(("plate", 0, 0, 0), ("plate", 0, 0, 1), ("plate", 1, 1, 1)))
+        for i in (0, 1, 2, 3, 10 ** 30):
+            self.assertEqual(group(i, given(PLATES), b), [-9])
+
+
 class AgainstTheWords(unittest.TestCase):
     BUILDS = grown_builds(7, 60)
 
@@ -213,6 +275,21 @@ class AgainstTheWords(unittest.TestCase):
             rows = slow_clutches(SHAPES, lines)
             for i, j in product(range(len(lines)), repeat=2):
                 self.assertEqual(clutch_of(i, j, SHAPED, *lines), [rows[i][j]], (i, j, lines))
+
+    def test_group_of_each(self):
+        for lines in self.BUILDS:
+            self.assertEqual(groups_of(SHAPED, *lines), slow_groups(SHAPES, lines), lines)
+
+    def test_groups_part_the_lines(self):
+        for lines in self.BUILDS[30:45]:
+            least = groups_of(SHAPED, *lines)
+            for i, first in enumerate(least):
+                self.assertLessEqual(first, i)
+                self.assertEqual(least[first], first)
+            self.assertEqual(len(set(least)), sizes_of(SHAPED, *lines)[3])
+            for i, j in product(range(len(lines)), repeat=2):
+                if least[i] != least[j]:
+                    self.assertEqual(clutch_of(i, j, SHAPED, *lines), [0])
 
     def test_studs_in_tubes_are_all_clutches_together(self):
         for lines in self.BUILDS[20:30]:

@@ -1,0 +1,31 @@
+"""Lines of a build moved and turned."""
+
+from brickrooms.catalogues import turned_sizes
+from brickrooms.rooms import ROOM_WIDTH
+
+
+def moved_lines(lines, dx, dy, dz):
+    return [(put[0], put[1], put[2] + dx, put[3] + dy, put[4] + dz, put[5]) for put in lines]
+
+
+def moved_home(lines):
+    if len(lines) == 0:
+        return []
+    # Each side of a right part's box has a cell: the least of the lines' places are the least of the cells, too.
+    x = min([put[2] for put in lines])
+    y = min([put[3] for put in lines])
+    z = min([put[4] for put in lines])
+    return moved_lines(lines, -x, -y, -z)
+
+
+def turned_lines(parts, lines, turns):
+    """The lines turned clockwise, and then moved home."""
+    for turn in range(turns):
+        lines = [turned_line(parts, put) for put in lines]
+    return moved_home(lines)
+
+
+def turned_line(parts, put):
+    # (x, y) goes to (y, 63 - x): what is at the line's last x comes to its least y, and so is its place.
+    last = put[2] + turned_sizes(parts[put[0]], put[5])[0] - 1
+    return (put[0], put[1], put[3], ROOM_WIDTH - 1 - last, put[4], (put[5] + 1) % 4)
