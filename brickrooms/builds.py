@@ -2,12 +2,15 @@
 
 from brickrooms.catalogues import catalogue_right, read_catalogue
 from brickrooms.holding import clutches, least_of_groups
-from brickrooms.moves import moved_lines, turned_lines
+from brickrooms.moves import moved_lines, plain_lines, turned_lines, turns_between
 from brickrooms.rooms import MOST_TURNS, Build, beyond_room, build_text, fill_room, leaves_room, read_build
+from brickrooms.rows import ROW_PLACES, ROWS, are_rows, moved_rows
 from brickrooms.texts import Stuck
 
 MOST_CATALOGUE_BYTES = 1048576
 MOST_BUILD_BYTES = 16384
+# Of what c and b are refused by, in the order in which it is looked at.
+REFUSALS = (-2, -6, -8, -5, -9)
 
 
 class Given:
@@ -50,6 +53,14 @@ def read_right(c, b):
         if len(given.room.wrong) > 0:
             given.refusal = -9
     return given
+
+
+def first_refusal(one, other):
+    """Which of the two's refusals is looked at first; 0 if neither is refused."""
+    for refusal in REFUSALS:
+        if refusal in (one.refusal, other.refusal):
+            return refusal
+    return 0
 
 
 def with_lines(given, lines):
@@ -147,3 +158,29 @@ def turned(r, c, b):
     if given.refusal < 0:
         return [given.refusal]
     return with_lines(given, turned_lines(given.parts, given.build.lines, r))
+
+
+def plain(c, b):
+    """How many bytes the build's text made plain has, and they."""
+    given = read_right(c, b)
+    if given.refusal < 0:
+        return [given.refusal]
+    return with_lines(given, plain_lines(given.parts, given.build.lines))
+
+
+def same(c, b, d):
+    """The least r by which b's and d's builds are the same; -3 if by none."""
+    one = read_right(c, b)
+    other = read_right(c, d)
+    refusal = first_refusal(one, other)
+    if refusal < 0:
+        return [refusal]
+    turns = turns_between(one.parts, one.build.lines, other.build.lines)
+    return [-3] if turns > MOST_TURNS else [turns]
+
+
+def rowsmoved(dx, dy, l):
+    """Eight rows moved by dx modulo 64 and dy modulo 8; -1 if l is not eight rows."""
+    if not are_rows(l):
+        return [-1]
+    return moved_rows(l, dx % ROW_PLACES, dy % ROWS)

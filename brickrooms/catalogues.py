@@ -161,3 +161,11 @@ def turned_once(part):
     for place, sign in part.cells.items():
         cells[(place[1], part.width - 1 - place[0], place[2])] = sign
     return Part(part.name, part.depth, part.width, part.height, part.weight, cells)
+
+
+def turns_until_alike(part):
+    """How many turns bring its cells, studs and tubes to where they were: 1, 2 or, as it is with all parts, 4."""
+    for turns in (1, 2):
+        if turned_part(part, turns).cells == part.cells:
+            return turns
+    return 4

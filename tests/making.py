@@ -187,19 +187,63 @@ def slow_turned(shapes, lines, turns):
         spread = [{(y, 63 - x, z): sign for (x, y, z), sign in cells.items()} for cells in spread]
     found = []
     for put, cells in zip(lines, spread):
-        after = (put[4] + turns) % 4
-        own = slow_cells(shapes[put[0]], after)[1]
-        place = tuple(a - b for a, b in zip(least_of(cells), least_of(own)))
-        again = (put[0],) + place + (after,) + tuple(put[5:])
+        again = slow_placed(shapes, put, (put[4] + turns) % 4, cells)
         if slow_put(shapes, again)[1] != cells:
             raise ValueError("no place has these cells")
         found.append(again)
-    home = least_of([place for cells in spread for place in cells]) if lines else None
-    return [(put[0],) + tuple(a - b for a, b in zip(put[1:4], home)) + tuple(put[4:]) for put in found]
+    if not lines:
+        return []
+    home = least_of([place for cells in spread for place in cells])
+    return shifted(found, tuple(-step for step in home))
 
 
 def least_of(places):
     return tuple(min(place[axis] for place in places) for axis in range(3))
+
+
+def slow_plain(shapes, lines):
+    """The lines made plain: of each the turns are tried from 0 on, the place sought by its cells."""
+    plain = []
+    for put in slow_turned(shapes, lines, 0):
+        cells = slow_put(shapes, put)[1]
+        tried = [slow_placed(shapes, put, turns, cells) for turns in range(4)]
+        plain.append([again for again in tried if slow_put(shapes, again)[1] == cells][0])
+    numbers = {name: number for number, name in enumerate(sorted(shapes))}
+    return sorted(plain, key=lambda put: (put[3], put[2], put[1], numbers[put[0]], put[5:], put[4]))
+
+
+def slow_placed(shapes, put, turns, cells):
+    """The line with other turns, at the one place where its least x, y and z are those of the cells."""
+    own = slow_cells(shapes[put[0]], turns)[1]
+    place = tuple(a - b for a, b in zip(least_of(cells), least_of(own)))
+    return (put[0],) + place + (turns,) + tuple(put[5:])
+
+
+def slow_same(shapes, first, second):
+    """same's answer, without making plain: of each line the part, the colour and the cells are set side by side."""
+    wanted = slow_picture(slow_spread(shapes, second), second)
+    spread = slow_spread(shapes, first)
+    for turns in range(4):
+        if slow_picture(spread, first) == wanted:
+            return [turns]
+        spread = [{(y, 63 - x, z): sign for (x, y, z), sign in cells.items()} for cells in spread]
+    return [-3]
+
+
+def slow_picture(spread, lines):
+    """What two builds have alike wherever they are and in whatever order their lines are."""
+    if not lines:
+        return []
+    home = least_of([place for cells in spread for place in cells])
+    shown = []
+    for cells, put in zip(spread, lines):
+        at_home = sorted((tuple(a - b for a, b in zip(place, home)), sign) for place, sign in cells.items())
+        shown.append((put[0], put[5:], at_home))
+    return sorted(shown)
+
+
+def shifted(lines, way):
+    return [(put[0],) + tuple(a + b for a, b in zip(put[1:4], way)) + tuple(put[4:]) for put in lines]
 
 
 # Parts of many forms, some without a cell at their own (0, 0, 0); frame takes another between its arms.

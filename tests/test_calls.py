@@ -3,7 +3,7 @@
 import time
 import unittest
 
-from brickrooms.builds import at, check, clutch, group, judge, line, moved, sizes, turned
+from brickrooms.builds import at, check, clutch, group, judge, line, moved, plain, same, sizes, turned
 from tests.making import CELLS, NAMED, NAMES, box, build, given, told
 
 NO_TEXT = "part"
@@ -24,6 +24,9 @@ CALLS = {
     "moved": lambda i, c, b: moved(i, i, i, c, b),
     # -1 goes ahead of all else: it has a test of its own.
     "turned": lambda i, c, b: turned(min(i, 3), c, b),
+    "plain": lambda i, c, b: plain(c, b),
+    # What is answered of two builds that differ has tests of its own.
+    "same": lambda i, c, b: same(c, b, b),
 }
 
 
@@ -106,7 +109,7 @@ class Refusals(unittest.TestCase):
 
     def test_no_such_line_or_place(self):
         good = {"judge": [1], "check": [0], "sizes": [1, 1, 0, 1, 1, 1], "moved": [-3],
-                "turned": told("build a\nput bare 0 0 0 0 3\n")}
+                "turned": told("build a\nput bare 0 0 0 0 3\n"), "plain": told(GOOD_BUILD), "same": [0]}
         for i in (96, 256, VERY_LARGE):
             self.assertEqual(all_calls(CELLS, GOOD_BUILD, i), all_alike([-4]) | good)
         near = {"at": [-3], "moved": told("build a\nput bare 0 1 1 1 0\n"),
@@ -115,10 +118,12 @@ class Refusals(unittest.TestCase):
 
     def test_good_ones(self):
         good = {"judge": [1], "check": [0], "line": [0] * 6, "sizes": [1, 1, 0, 1, 1, 1], "at": [0], "clutch": [0],
-                "group": [0], "moved": told(GOOD_BUILD), "turned": told(GOOD_BUILD)}
+                "group": [0], "moved": told(GOOD_BUILD), "turned": told(GOOD_BUILD), "plain": told(GOOD_BUILD),
+                "same": [0]}
         self.assertEqual(all_calls(CELLS, GOOD_BUILD), good)
         none = {"judge": [0], "check": [0], "line": [-4], "sizes": [0] * 6, "at": [-3], "clutch": [-4],
-                "group": [-4], "moved": told("build a\n"), "turned": told("build a\n")}
+                "group": [-4], "moved": told("build a\n"), "turned": told("build a\n"), "plain": told("build a\n"),
+                "same": [0]}
         self.assertEqual(all_calls(CELLS, "build a\n"), none)
 
 
@@ -212,7 +217,8 @@ class AsLargeAsMayBe(unittest.TestCase):
         text += "".join(box(f"b{k:02}", 16, 1, 1) for k in range(44))
         self.assertEqual(judge(given(text), given("build a\n")), [0])
         further = {"sizes": [1, 4608, 0, 1, 1, 18], "at": [-4], "clutch": [-4], "group": [-4], "moved": [-3],
-                   "turned": told("build a\nput a19 0 0 0 0 2\n")}
+                   "turned": told("build a\nput a19 0 0 0 0 2\n"), "plain": told("build a\nput a19 0 0 0 0 0\n"),
+                   "same": [0]}
         self.answers(given(text), given("build a\nput a19 0 0 0 0 3\n"), [[1], [0], [-4]], further)
 
     def test_100000_bytes_that_are_no_catalogue(self):
@@ -228,21 +234,40 @@ class AsLargeAsMayBe(unittest.TestCase):
         b = given(build(*puts))
         last = [("a", 48 - y, x, z, (turns + 3) % 4) for name, x, y, z, turns in puts]
         further = {"sizes": [80, 368640, 16384, 16, 80, 90], "at": [-4], "clutch": [-4], "group": [-4], "moved": [-3],
-                   "turned": told(build(*last))}
+                   "turned": told(build(*last)), "plain": told(build(*[put[:4] for put in puts])), "same": [0]}
         self.answers(c, b, [[80], [0], [-4]], further)
+        self.assertEqual([same(c, b, given(build(*last))), same(c, b, given(build(*last[1:])))], [[0], [-3]])
         self.assertEqual([at(63, 63, 89, c, b), at(63, 63, 90, c, b)], [[79], [-3]])
         self.assertEqual([clutch(63, 79, c, b), clutch(79, 63, c, b)], [[256], [0]])
         self.assertEqual([group(79, c, b), group(64, c, b)], [[15], [0]])
         high = [(name, x, y, z + 6, turns) for name, x, y, z, turns in puts]
         self.assertEqual([moved(0, 0, 6, c, b), moved(0, 0, 7, c, b)], [told(build(*high)), [-3]])
-        refused = {name: [-9] for name in ("sizes", "at", "clutch", "group", "moved", "turned")}
+        refused = {name: [-9] for name in CALLS if name not in ("judge", "check", "line")}
         self.answers(c, given(build(*puts, puts[79])), [[81], [-9, 2, 80, 79], [-4]], refused)
+
+    def test_a_full_room_of_many_large_parts(self):
+        text = "".join(box(f"a{k:02}", 16, 16, 18, "t" + "#" * 16 + "s") for k in range(20))
+        c = given(text + "".join(box(f"b{k:02}", 16, 1, 1) for k in range(44)))
+        puts = [(f"a{(5 * x + 3 * y + z) % 20:02}", 16 * x, 16 * y, 18 * z, (x + y + z) % 4)
+                for z in range(5) for y in range(4) for x in range(4)]
+        b = given(build(*puts))
+        self.answers(c, b, [[80], [0], [-4]], {"plain": told(build(*[put[:4] for put in puts])), "same": [0]})
+        started = time.monotonic()
+        self.assertEqual(same(c, b, turned(3, c, b)[1:]), [3])
+        self.assertLess(time.monotonic() - started, 30)
 
     def test_256_lines(self):
         c = given(box("a", 4, 4, 6, "t" + "#" * 4 + "s"))
         puts = [("a", 4 * (k % 16), 4 * (k // 16), 0, k % 4, k) for k in range(256)]
-        further = {"sizes": [256, 256 * 96, 0, 256, 256, 6], "at": [-4], "clutch": [0], "group": [255], "moved": [-3]}
+        least = [put[:4] + (0, put[5]) for put in puts]
+        further = {"sizes": [256, 256 * 96, 0, 256, 256, 6], "at": [-4], "clutch": [0], "group": [255], "moved": [-3],
+                   "plain": told(build(*least)), "same": [0]}
         self.answers(c, given(build(*puts)), [[256], [0], [0, 255, 60, 60, 0, 3]], further)
+        self.assertEqual(plain(c, given(build(*puts[::-1]))), told(build(*least)))
+        for r in range(4):
+            after = turned(r, c, given(build(*puts[::-1])))[1:]
+            self.assertEqual(same(c, given(build(*puts)), after), [r])
+        self.assertEqual(same(c, given(build(*puts)), given(build(*puts[:255], puts[255][:5] + (0,)))), [-3])
         self.answers(c, given(build(*puts[:255], ("a", 0, 0, 0))), [[256], [-9, 2, 255, 0], [0, 0, 0, 0, 0, 0]])
         self.answers(c, given(build(*puts[:255], ("a", 1, 1, 4))), [[256], [-9, 2, 255, 0], [0, 0, 1, 1, 4, 0]])
         further = {"sizes": [256, 256 * 96, 16, 252, 256, 12], "clutch": [0], "group": [0]}
@@ -268,8 +293,10 @@ class AsLargeAsMayBe(unittest.TestCase):
         c = given("part a 16 16 16 1\n" + "".join(row + "\n" for layer in layers for row in layer))
         puts = [("a", k % 49, k % 49, 16 * (k // 49)) for k in range(256)]
         further = {"sizes": [256, 256 * 46, 0, 256, 256, 96], "at": [-4], "clutch": [0], "group": [255],
-                   "moved": [-3], "turned": told(build(*[("a", 48 - y, x, z, 3) for name, x, y, z in puts]))}
+                   "moved": [-3], "turned": told(build(*[("a", 48 - y, x, z, 3) for name, x, y, z in puts])),
+                   "plain": told(build(*puts)), "same": [0]}
         self.answers(c, given(build(*puts)), [[256], [0], [0, 0, 10, 10, 80, 0]], further)
+        self.assertEqual(same(c, given(build(*puts)), further["turned"][1:]), [3])
         self.answers(c, given(build(*puts[:255], ("a", 0, 1, 0))), [[256], [-9, 2, 255, 0], [0, 0, 0, 1, 0, 0]])
 
     def test_a_part_whose_cells_are_one_long_way(self):

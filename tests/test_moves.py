@@ -5,7 +5,7 @@ from itertools import product
 
 from brickrooms.builds import check, clutch, group, judge, moved, sizes, turned
 from tests.making import (ANGLE, BLANK_BUILD, CELLS, NAMED, NAMES, SHAPED, SHAPES, box, build, given, grown_builds,
-                          part, slow_leaves_room, slow_put, slow_turned, told)
+                          part, shifted, slow_leaves_room, slow_put, slow_turned, told)
 
 FAR = (64, 95, 96, 128, 2 ** 32, 2 ** 64, 10 ** 30 - 1, 10 ** 30)
 BUILDS = grown_builds(9, 60)
@@ -21,10 +21,6 @@ def turned_of(r, catalogue, *lines):
 
 def told_build(*lines):
     return told(build(*lines))
-
-
-def shifted(lines, way):
-    return [(put[0],) + tuple(a + b for a, b in zip(put[1:4], way)) + tuple(put[4:]) for put in lines]
 
 
 def holding(b):
