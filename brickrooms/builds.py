@@ -4,12 +4,12 @@ from brickrooms.catalogues import catalogue_right, read_catalogue
 from brickrooms.holding import clutches, least_of_groups
 from brickrooms.moves import moved_lines, plain_lines, turned_lines, turns_between
 from brickrooms.rooms import MOST_TURNS, Build, beyond_room, build_text, fill_room, leaves_room, read_build
-from brickrooms.rows import ROW_PLACES, ROWS, are_rows, moved_rows
+from brickrooms.rows import ROW_PLACES, ROWS, are_rows, moved_rows, places_in_both
 from brickrooms.texts import Stuck
 
 MOST_CATALOGUE_BYTES = 1048576
 MOST_BUILD_BYTES = 16384
-# Of what c and b are refused by, in the order in which it is looked at.
+# By what c and b are refused, in the order in which it is looked at: of two builds the first of these is told.
 REFUSALS = (-2, -6, -8, -5, -9)
 
 
@@ -184,3 +184,10 @@ def rowsmoved(dx, dy, l):
     if not are_rows(l):
         return [-1]
     return moved_rows(l, dx % ROW_PLACES, dy % ROWS)
+
+
+def rowshit(a, b):
+    """How many places are 1 in both; -1 if a or b is not eight rows."""
+    if not are_rows(a) or not are_rows(b):
+        return [-1]
+    return [places_in_both(a, b)]

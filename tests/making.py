@@ -31,6 +31,13 @@ def told(text):
     return [len(text)] + given(text)
 
 
+def lines_told(answer):
+    """The lines of an answered text, as build() has them."""
+    rows = "".join(chr(byte) for byte in answer[1:]).split("\n")[1:-1]
+    words = [row.split(" ") for row in rows]
+    return [(name, int(x), int(y), int(z), int(turns), int(colour)) for put, name, colour, x, y, z, turns in words]
+
+
 def build(*lines, name="a"):
     """A build's text; a line is written (part's name, x, y, z) or with turns and colour behind."""
     text = f"build {name}\n"
