@@ -268,7 +268,8 @@ class Plain(unittest.TestCase):
 
     def test_line_by_line_it_holds_on_as_it_did(self):
         c = given(SHAPED)
-        for lines in BUILDS[:16]:
+        # Each two lines are asked of by themselves: the largest builds would take long.
+        for lines in [lines for lines in BUILDS if len(lines) < 20][:16]:
             home = turned(0, c, given(build(*lines)))[1:]
             after = plain(c, home)[1:]
             # Which line has become which: by part, colour and place, which differ here.
